@@ -1,0 +1,1 @@
+"""Signals: stations that move on a line and send one another light."""
