@@ -19,3 +19,8 @@ class Board:
         past = self.past + (self.stations,)
         self.past = past[-MOST_CHANGES:]
         self.stations = stations
+
+    # There is a change to take back; what is taken back is not kept, for it is no change itself.
+    def take_back(self):
+        self.stations = self.past[-1]
+        self.past = self.past[:-1]

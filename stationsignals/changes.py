@@ -1,7 +1,9 @@
 """The calls that change the stations. Each answers a list: one number."""
 
 from stationsignals.light import Station
-from stationsignals.refusals import NO_STATION, OUT_OF_RANGE, TOO_MANY, is_factor, is_spot, is_station
+from stationsignals.refusals import (
+    NO_CHANGE, NO_STATION, OUT_OF_RANGE, TOO_MANY, is_factor, is_spot, is_station,
+)
 
 MOST_STATIONS = 6
 
@@ -49,3 +51,10 @@ def set_station(board, i, t, x):
     old = board.stations[i]
     board.change_to(put_in_place(board.stations, i, Station(t, x, old.p, old.q)))
     return [0]
+
+
+def take_last_back(board):
+    if len(board.past) == 0:
+        return [NO_CHANGE]
+    board.take_back()
+    return [len(board.past)]

@@ -10,7 +10,7 @@ def greatest_common(a, b):
     return b
 
 
-# lower is 1 or more: all that is divided by here is a factor's part or a fraction's second number.
+# lower is 1 or more: what is divided by is a factor's part, a sum of squares, or made so by over.
 def ratio(upper, lower):
     shared = greatest_common(abs(upper), lower)
     return (upper // shared, lower // shared)
@@ -28,7 +28,24 @@ def scaled(a, p, q):
     return ratio(a[0] * p, a[1] * q)
 
 
+# The whole number may be below 0, not 0: the sign goes to the upper number.
+def over(a, whole):
+    if whole < 0:
+        return ratio(-a[0], a[1] * -whole)
+    return ratio(a[0], a[1] * whole)
+
+
+def is_less(a, b):
+    return a[0] * b[1] < b[0] * a[1]
+
+
 def greater(a, b):
-    if a[0] * b[1] < b[0] * a[1]:
+    if is_less(a, b):
+        return b
+    return a
+
+
+def lesser(a, b):
+    if is_less(b, a):
         return b
     return a

@@ -1,8 +1,11 @@
 """A line of calls on one new object, and what is answered of each."""
 
 from stationsignals.board import Board
-from stationsignals.changes import add_station, drop_station, move_station, set_station
-from stationsignals.looks import tell_echo, tell_send, tell_station, tell_ticks, tell_where
+from stationsignals.changes import add_station, drop_station, move_station, set_station, take_last_back
+from stationsignals.looks import (
+    tell_closing, tell_echo, tell_hears, tell_meet, tell_own, tell_ownof, tell_relay, tell_round, tell_send,
+    tell_state, tell_station, tell_ticks, tell_till, tell_where,
+)
 from stationsignals.refusals import NOT_BEGUN
 
 BEGIN = 0
@@ -15,8 +18,16 @@ AT = 6
 SEND = 7
 ECHO = 8
 TICKS = 9
+HEARS = 10
+TILL = 11
+OWN = 12
+OWNOF = 13
+MEET = 14
 RELAY = 15
 ROUND = 16
+CLOSING = 17
+BACK = 18
+STATE = 19
 
 # How many numbers stand behind each call's own, by that; of relay and round those ahead of the row,
 # the row's count among them.
@@ -39,21 +50,43 @@ def change(board, number, given):
         return drop_station(board, given[0])
     if number == MOVE:
         return move_station(board, given[0], given[1], given[2])
-    return set_station(board, given[0], given[1], given[2])
+    if number == SET:
+        return set_station(board, given[0], given[1], given[2])
+    return take_last_back(board)
 
 
-def look(board, number, given):
+def look_at_one(board, number, given):
     if number == IS:
         return tell_station(board, given[0])
     if number == AT:
         return tell_where(board, given[0], given[1], given[2])
+    if number == HEARS:
+        return tell_hears(board, given[0], given[1], given[2])
+    if number == TILL:
+        return tell_till(board, given[0], given[1], given[2])
+    return tell_own(board, given[0], given[1], given[2])
+
+
+def look_at_two(board, number, given):
     if number == SEND:
         return tell_send(board, given[0], given[1], given[2], given[3])
     if number == ECHO:
         return tell_echo(board, given[0], given[1], given[2], given[3])
     if number == TICKS:
         return tell_ticks(board, given[0], given[1], given[2], given[3])
-    raise NotImplementedError("this call is not built yet")
+    if number == OWNOF:
+        return tell_ownof(board, given[0], given[1], given[2], given[3])
+    if number == MEET:
+        return tell_meet(board, given[0], given[1])
+    return tell_closing(board, given[0], given[1])
+
+
+# The row stands behind n, d and how many numbers it has.
+def look_along_row(board, number, given):
+    row = given[3:]
+    if number == RELAY:
+        return tell_relay(board, row, given[0], given[1])
+    return tell_round(board, row, given[0], given[1])
 
 
 def answer(board, number, given):
@@ -62,9 +95,15 @@ def answer(board, number, given):
         return [0]
     if not board.begun:
         return [NOT_BEGUN]
-    if STATION <= number <= SET:
+    if number in (STATION, DROP, MOVE, SET, BACK):
         return change(board, number, given)
-    return look(board, number, given)
+    if number in (IS, AT, HEARS, TILL, OWN):
+        return look_at_one(board, number, given)
+    if number in (RELAY, ROUND):
+        return look_along_row(board, number, given)
+    if number == STATE:
+        return tell_state(board)
+    return look_at_two(board, number, given)
 
 
 def answers(calls):
